@@ -1,0 +1,1 @@
+"""Polynomials with whole coefficients taken apart."""
