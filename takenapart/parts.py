@@ -1,7 +1,7 @@
 """Polynomials with whole coefficients taken apart, in Zassenhaus's way.
 
 A polynomial is taken apart modulo a prime; these pieces are brought up to a power of the prime so high that whole
-coefficients can be read off; then they are joined to what goes into the polynomial. But for parts itself, f is
+coefficients can be read off; then they are joined to what goes into the polynomial. But for the last two, f is
 primitive, of degree 1 or more, has a first coefficient above 0, and no part twice.
 """
 
@@ -136,8 +136,18 @@ def simple_parts(f):
     return whole_parts(f, pieces, modulus)
 
 
+# By degree, then by the coefficients, that of the highest power of x first: so lists are compared.
+def order(f):
+    return [len(f)] + f[::-1]
+
+
 # f is any polynomial but 0. What it has in common with its derivative is what makes parts come more than once.
 def parts(f):
     whole = primitive(f)
     once = quotient(whole, primitive_common(whole, derivative(whole)))
-    return simple_parts(once) if len(once) > 1 else []
+    return sorted(simple_parts(once), key=order) if len(once) > 1 else []
+
+
+# f is any polynomial but 0. Parts are simple, so where one is f itself, f is; and no other goes into a simple f.
+def is_simple(f):
+    return parts(f) == [f]

@@ -77,7 +77,7 @@ def scaled_rest(f, g):
     return rest
 
 
-# f isn't 0. Numbers that go into both are left out.
+# f and g aren't both 0. Numbers that go into both are left out.
 def primitive_common(f, g):
     above = f
     below = g
@@ -87,3 +87,26 @@ def primitive_common(f, g):
         # Kept as it is, the rest would have coefficients twice as long at each turn.
         below = primitive(rest) if len(rest) > 0 else rest
     return primitive(above)
+
+
+# f and g aren't both 0. The greatest number that goes into all coefficients of both goes into what they have in common.
+def common(f, g):
+    number = abs(content(f + g))
+    return [number * coefficient for coefficient in primitive_common(f, g)]
+
+
+# g is of degree 1 or more and f isn't 0, so the degree comes down until g goes in no more.
+def how_often(f, g):
+    often = 0
+    rest = quotient(f, g)
+    while rest is not None:
+        often += 1
+        rest = quotient(rest, g)
+    return often
+
+
+def value(f, x):
+    total = 0
+    for coefficient in f[::-1]:
+        total = total * x + coefficient
+    return total

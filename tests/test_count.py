@@ -3,72 +3,13 @@
 import itertools
 import unittest
 
-from helper import COUNT, DEGREE, GREATEST, LEAST, answered, asked, power, put, sparse, times
+from helper import (
+    ALL_LINEAR_MODULO_SIX, COUNT, CUBIC, DEGREE, EIGHTH, FOUR_ROOTS, GREATEST, LEAST, LINEAR, QUADRATIC, QUARTIC,
+    answered, asked, parts_by_trial, power, put, small_ones, sparse, times)
 from takenapart.desk import answers
-
-# None of these can be taken apart: they are of degree 1, cyclotomic, or Eisenstein's rule holds for them or for their
-# coefficients turned round.
-LINEAR = [[0, 1], [1, 1], [-1, 1], [2, 1], [-3, 2], [1, 2], [5, 3]]
-QUADRATIC = [[1, 0, 1], [1, 1, 1], [-2, 0, 1], [1, 0, 2], [3, 3, 2], [5, -5, 3]]
-CUBIC = [[-2, 0, 0, 1], [3, -3, 0, 2], [7, 0, 7, 3]]
-QUARTIC = [[1, 0, 0, 0, 1], [1, 1, 1, 1, 1], [2, 2, 0, 0, 3], [-10, 5, 0, 0, 7]]
-EIGHTH = [sparse({8: 1, 0: 1}), sparse({8: 1, 0: -2}), sparse({8: 3, 4: 2, 1: -4, 0: 2}),
-          sparse({8: 5, 7: -7, 3: 14, 0: 21})]
-
-# The least polynomial of sqrt 2 + sqrt 3 + sqrt 5 + sqrt 7: modulo each prime it has parts of degree 1 and 2 alone.
-FOUR_ROOTS = sparse({16: 1, 14: -136, 12: 6476, 10: -141912, 8: 1513334, 6: -7453176, 4: 13950764, 2: -5596840,
-                     0: 46225})
-
-# Modulo 17, 19, 23, 29, 31 and 37, the least primes that don't go into its first coefficient, this one is a product of
-# sixteen polynomials of degree 1.
-ALL_LINEAR_MODULO_SIX = [
-    -24672032, -47707183, -53334108, -91055130, 20972143, 87363563, -4760620, -27668301, 41286157, 32242117,
-    105512481, 108394786, -118426089, 72687174, -21370997, 107018160, 30030]
-
 
 def count(f):
     return asked(f, COUNT)
-
-
-def divides(g, f):
-    """Whether g goes into f with whole coefficients."""
-    rest = list(f)
-    for shift in range(len(f) - len(g), -1, -1):
-        if rest[shift + len(g) - 1] % g[-1]:
-            return False
-        factor = rest[shift + len(g) - 1] // g[-1]
-        for k, c in enumerate(g):
-            rest[shift + k] -= factor * c
-    return not any(rest)
-
-
-def divided(f, g):
-    rest = list(f)
-    found = [0] * (len(f) - len(g) + 1)
-    for shift in range(len(f) - len(g), -1, -1):
-        found[shift] = rest[shift + len(g) - 1] // g[-1]
-        for k, c in enumerate(g):
-            rest[shift + k] -= found[shift] * c
-    return found
-
-
-def small_divisors(limit):
-    """All of degree 1, then all of degree 2, with a first coefficient above 0 and no farther from 0 than the limit."""
-    reach = range(-limit, limit + 1)
-    linear = [[a, b] for b in range(1, limit + 1) for a in reach]
-    return linear + [[a, b, c] for c in range(1, limit + 1) for a in reach for b in reach]
-
-
-def count_by_trial(f, divisors):
-    """How many parts f, of degree 5 and less, has: a second way, that tries all that could be one."""
-    found = 0
-    rest = f
-    for g in divisors:
-        if len(g) <= len(rest) and divides(g, rest):
-            found += 1
-            while len(g) <= len(rest) and divides(g, rest):
-                rest = divided(rest, g)
-    return found + (1 if len(rest) > 1 else 0)
 
 
 class Ordinary(unittest.TestCase):
@@ -118,14 +59,8 @@ class Ordinary(unittest.TestCase):
             self.assertEqual(count(sparse({n: 1, 0: 1})), [len(divisors)])
 
     def test_every_small_one_of_degree_5_and_less(self):
-        # No part of degree 2 of one of these has a coefficient above 2 * sqrt 6 < 5.
-        divisors = small_divisors(4)
-        for f in itertools.product((-1, 0, 1), repeat=6):
-            f = list(f)
-            while f and f[-1] == 0:
-                f.pop()
-            if f:
-                self.assertEqual(count(f), [count_by_trial(f, divisors)], f)
+        for f in small_ones():
+            self.assertEqual(count(f), [len(parts_by_trial(f))], f)
 
 
 class ManyTimesOver(unittest.TestCase):

@@ -90,6 +90,12 @@ class Tree(unittest.TestCase):
                 if isinstance(node, ast.Expr) and node is not tree.body[0]:
                     self.assertIsInstance(node.value, ast.Call, (path.name, node.lineno))
 
+    def test_values_at_a_file_s_top_are_plain(self):
+        for path in package_files():
+            for node in ast.parse(path.read_text()).body:
+                if isinstance(node, ast.Assign):
+                    self.assertIsNotNone(ast.literal_eval(node.value), (path.name, node.lineno))
+
     def test_exponents_are_written(self):
         for name, node in nodes(ast.BinOp):
             if isinstance(node.op, ast.Pow):
